@@ -57,6 +57,21 @@ func TestNumber(t *testing.T) {
 	}
 }
 
+func TestNumbers(t *testing.T) {
+	for i, x := range []struct {
+		fields []string
+		want   []int
+		ok     bool
+	}{
+		{nil, nil, true}, {[]string{"7"}, []int{7}, true}, {[]string{"3", "-1", "0"}, []int{3, -1, 0}, true},
+		{[]string{""}, nil, false}, {[]string{"1", "x"}, nil, false}, {[]string{"x", "1"}, nil, false},
+	} {
+		if l, ok := terms.Numbers(x.fields); !slices.Equal(l, x.want) || ok != x.ok {
+			t.Error(i, l, ok)
+		}
+	}
+}
+
 func TestLines(t *testing.T) {
 	for i, x := range []struct {
 		text string

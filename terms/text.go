@@ -19,6 +19,18 @@ func Number(field string) (n int, ok bool) {
 	return n, true
 }
 
+// Numbers reads fields that all are numbers.
+func Numbers(fields []string) (l []int, ok bool) {
+	for _, field := range fields {
+		n, ok := Number(field)
+		if !ok {
+			return nil, false
+		}
+		l = append(l, n)
+	}
+	return l, true
+}
+
 // Lines yields the number, from 1, and the fields of each line of a text.
 func Lines(text string) iter.Seq2[int, []string] {
 	return func(yield func(int, []string) bool) {

@@ -107,13 +107,8 @@ func (r *reader) needAfter(words ...string) {
 
 // numbers reads so many fields, which all are numbers.
 func (r *reader) numbers(fields []string, many int) []int {
-	r.need(len(fields) == many)
-	l := make([]int, many)
-	for i, field := range fields {
-		n, ok := terms.Number(field)
-		r.need(ok)
-		l[i] = n
-	}
+	l, ok := terms.Numbers(fields)
+	r.need(ok && len(l) == many)
 	return l
 }
 
